@@ -1,0 +1,1 @@
+"""Rebut: a workbench of refutation systems."""

@@ -1,0 +1,172 @@
+"""Slow and plain ways to tell what is right, for the tests."""
+
+import itertools
+import random
+
+
+class Raising:
+    """An object that answers every question with an error."""
+
+    __hash__ = None
+
+    def __eq__(self, other):
+        raise RuntimeError("compared")
+
+    def __ne__(self, other):
+        raise RuntimeError("compared")
+
+    def __lt__(self, other):
+        raise RuntimeError("ordered")
+
+    def __len__(self):
+        raise RuntimeError("measured")
+
+    def __iter__(self):
+        raise RuntimeError("iterated")
+
+    def __bool__(self):
+        raise RuntimeError("tested")
+
+
+def nested(depth, inner, kind):
+    value = inner
+    for _ in range(depth):
+        value = [value] if kind is list else {"a": value} if kind is dict else (value,)
+    return value
+
+
+def strange_values():
+    """Values of all kinds, none of which is of a form that the document tells, but for ()."""
+    plain = [0, 1, -1, 10 ** 40, True, False, None, 1.5, float("nan"), "", "formula", "a\u00e9", b"", b"axiom",
+             [], [1], {}, {1: 2}, set(), {1, 2}, frozenset([1]), range(3), Raising(), object(), int, len]
+    deep = [nested(200, 1, tuple), nested(200, "leaf", list), nested(200, (), dict), nested(199, None, tuple)]
+    tuples = [(value,) for value in plain] + [(0, value) for value in plain] + [(value, ()) for value in plain]
+    tuples += [("leaf", value) for value in plain] + [("ask", 1, value, value) for value in plain]
+    tuples += [("ask", value, ("leaf", 0), ("leaf", 0)) for value in plain]
+    tuples += [("model", value) for value in plain] + [("refutation", value) for value in plain]
+    tuples += [((value, 1),) for value in plain] + [(((), value),) for value in plain[4:]]
+    tuples += [(("axiom", value),) for value in plain[4:]] + [((value, 0),) for value in plain]
+    tuples += [(("axiom", 0), value) for value in plain] + [((value,),) for value in plain[4:]]
+    return plain + deep + tuples
+
+
+def assignments(n):
+    for signs in itertools.product((-1, 1), repeat=n):
+        yield tuple(sorted(sign * v for sign, v in zip(signs, range(1, n + 1))))
+
+
+def cubes(n):
+    """All cubes, or clauses, of the variables from 1 to n, ascending."""
+    found = []
+    for signs in itertools.product((-1, 0, 1), repeat=n):
+        found.append(tuple(sorted(sign * v for sign, v in zip(signs, range(1, n + 1)) if sign)))
+    return sorted(found)
+
+
+def is_true(clause, cube):
+    return bool(set(clause) & set(cube))
+
+
+def is_false(clause, cube):
+    return {-literal for literal in clause} <= set(cube)
+
+
+def models(formula):
+    n, clauses = formula
+    return [cube for cube in assignments(n) if all(is_true(clause, cube) for clause in clauses)]
+
+
+def random_formula(source, n, count, widest=3):
+    """A formula with up to `count` clauses of n variables."""
+    rows = set()
+    for _ in range(count):
+        width = source.randint(0 if source.random() < 0.02 else 1, widest)
+        variables = source.sample(range(1, n + 1), min(n, width))
+        rows.add(tuple(sorted(source.choice((v, -v)) for v in variables)))
+    return (n, tuple(sorted(rows)))
+
+
+def random_formulas(seed, count, most_variables=5, most_clauses=16, widest=3):
+    source = random.Random(seed)
+    for _ in range(count):
+        n = source.randint(1, most_variables)
+        yield random_formula(source, n, source.randint(0, most_clauses), widest)
+
+
+def random_refutable(seed, count, most_variables=5, most_clauses=16, widest=3):
+    """Formulas without models."""
+    source = random.Random(seed)
+    found = 0
+    while found < count:
+        n = source.randint(1, most_variables)
+        formula = random_formula(source, n, source.randint(2, most_clauses), widest)
+        if not models(formula):
+            found += 1
+            yield formula
+
+
+def clauses_of_steps(formula, steps):
+    """The clauses of a derivation, or None if it is none; independent of the program."""
+    known = []
+    for step in steps:
+        if step[0] == "axiom":
+            clause = formula[1][step[1]]
+        elif step[0] == "resolve":
+            _, a, b, v = step
+            if not (v in known[a] and -v in known[b] and v > 0):
+                return None
+            clause = tuple(sorted((set(known[a]) | set(known[b])) - {v, -v}))
+        else:
+            _, a, clause = step
+            if not set(known[a]) <= set(clause) or tuple(sorted(set(clause))) != clause:
+                return None
+        if any(-literal in clause for literal in clause):
+            return None
+        known.append(clause)
+    return known
+
+
+def random_refutation(source, formula):
+    """A refutation with steps that are weakened, repeated or not used, or None if none was found."""
+    steps = []
+    known = []
+    for index, clause in enumerate(formula[1]):
+        steps.append(("axiom", index))
+        known.append(clause)
+    for _ in range(400):
+        if known and known[-1] == ():
+            return tuple(steps)
+        if source.random() < 0.15:
+            a = source.randrange(len(known))
+            extra = [v for v in range(1, formula[0] + 1) if v not in known[a] and -v not in known[a]]
+            added = [source.choice((v, -v)) for v in extra if source.random() < 0.4]
+            clause = tuple(sorted(known[a] + tuple(added)))
+            steps.append(("weaken", a, clause))
+            known.append(clause)
+            continue
+        choices = []
+        for _ in range(30):
+            a, b = source.randrange(len(known)), source.randrange(len(known))
+            clash = [v for v in known[a] if v > 0 and -v in known[b]]
+            if len(clash) == 1 and not any(-x in known[b] and abs(x) != clash[0] for x in known[a]):
+                clause = tuple(sorted((set(known[a]) | set(known[b])) - {clash[0], -clash[0]}))
+                choices.append((len(clause), a, b, clash[0], clause))
+        if choices:
+            _, a, b, v, clause = min(choices) if source.random() < 0.7 else source.choice(choices)
+            steps.append(("resolve", a, b, v))
+            known.append(clause)
+    return None
+
+
+def random_refutations(seed, count, **more):
+    """Pairs of a formula and a refutation of it."""
+    source = random.Random(seed)
+    found = 0
+    for formula in random_refutable(seed + 1, count * 4, **more):
+        steps = random_refutation(source, formula)
+        if steps is not None:
+            found += 1
+            yield formula, steps
+        if found == count:
+            return
+    raise AssertionError("too few refutations")
