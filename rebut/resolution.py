@@ -1,0 +1,238 @@
+"""Derivations by resolution: what is right, their measures, and what can be made of them."""
+
+from rebut.clauses import is_clause, made_clause, restricted, satisfies, without_false
+from rebut.errors import WrongStep
+from rebut.forms import has_form, is_index, is_tuple, is_variable
+
+
+def resolvent(first, second, v):
+    """The clause of all literals of two clauses without v and -v, or None if they form no clause."""
+    return made_clause([literal for literal in first + second if abs(literal) != v])
+
+
+def contains(clause, part):
+    """Whether a clause contains all literals of another one."""
+    return all([literal in clause for literal in part])
+
+
+def clause_of_resolve(formula, clauses, step):
+    """The clause of a tuple of the form of a resolution behind steps with some clauses, or None if it is wrong."""
+    if not is_index(step[1], len(clauses)) or not is_index(step[2], len(clauses)):
+        return None
+    first, second, v = clauses[step[1]], clauses[step[2]], step[3]
+    if not is_variable(formula[0], v) or v not in first or -v not in second:
+        return None
+    return resolvent(first, second, v)
+
+
+def clause_of_weaken(formula, clauses, step):
+    """The clause of a tuple of the form of a weakening behind steps with some clauses, or None if it is wrong."""
+    if not is_index(step[1], len(clauses)) or not is_clause(formula[0], step[2]):
+        return None
+    if not contains(step[2], clauses[step[1]]):
+        return None
+    return step[2]
+
+
+def clause_of_step(formula, clauses, step):
+    """The clause of any value behind steps with some clauses, or None if the value is no right step."""
+    if has_form(step, "axiom", 2) and is_index(step[1], len(formula[1])):
+        return formula[1][step[1]]
+    if has_form(step, "resolve", 4):
+        return clause_of_resolve(formula, clauses, step)
+    if has_form(step, "weaken", 3):
+        return clause_of_weaken(formula, clauses, step)
+    return None
+
+
+def right_clauses(formula, steps):
+    """The clauses of the steps of a tuple before the first one that is not right."""
+    clauses = []
+    for step in steps:
+        clause = clause_of_step(formula, clauses, step)
+        if clause is None:
+            return clauses
+        clauses.append(clause)
+    return clauses
+
+
+def clauses_of(formula, steps):
+    """The clauses of the steps of a derivation; raises WrongStep if a step is not right."""
+    clauses = right_clauses(formula, steps)
+    if len(clauses) < len(steps):
+        raise WrongStep(len(clauses))
+    return clauses
+
+
+def is_refutation(formula, value):
+    """Whether any value is a refutation of a formula."""
+    if not is_tuple(value) or not value:
+        return False
+    clauses = right_clauses(formula, value)
+    return len(clauses) == len(value) and clauses[-1] == ()
+
+
+def step_width(formula, steps):
+    """The greatest width of the clauses of a derivation."""
+    return max([len(clause) for clause in clauses_of(formula, steps)])
+
+
+def earlier_steps(step):
+    """The list of the indexes of the earlier steps that a step uses."""
+    if step[0] == "resolve":
+        return [step[1], step[2]]
+    if step[0] == "weaken":
+        return [step[1]]
+    return []
+
+
+def moved_step(step, places):
+    """The step with a list of other indexes for the earlier steps that it uses."""
+    if step[0] == "resolve":
+        return ("resolve", places[0], places[1], step[3])
+    if step[0] == "weaken":
+        return ("weaken", places[0], step[2])
+    return step
+
+
+def step_depth(steps):
+    """The greatest number of steps `resolve` on a way from the last step back to an axiom."""
+    depths = []
+    for step in steps:
+        own = 1 if step[0] == "resolve" else 0
+        depths.append(own + max([depths[at] for at in earlier_steps(step)], default=0))
+    return depths[-1]
+
+
+def is_treelike(steps):
+    """Whether each step but the last one, which no later step can use, is used exactly once."""
+    uses = [0] * len(steps)
+    for step in steps:
+        for at in earlier_steps(step):
+            uses[at] += 1
+    return all([count == 1 for count in uses[:-1]])
+
+
+def is_regular(steps):
+    """Whether no two steps `resolve` on a way from the last step back to an axiom have the same variable."""
+    # For each step, the variables of the steps `resolve` from it back, as the bits of a number.
+    below = []
+    for step in pruned(steps):
+        variables = 0
+        for at in earlier_steps(step):
+            variables = variables | below[at]
+        if step[0] == "resolve":
+            bit = 1 << step[3]
+            if variables & bit:
+                return False
+            variables = variables | bit
+        below.append(variables)
+    return True
+
+
+def used_steps(steps):
+    """For each step, whether it is used, directly or indirectly, for the last one, or is the last one."""
+    used = [False] * len(steps)
+    used[-1] = True
+    for at in reversed(range(len(steps))):
+        if used[at]:
+            for earlier in earlier_steps(steps[at]):
+                used[earlier] = True
+    return used
+
+
+def pruned(steps):
+    """The derivation without the steps that are not used for the last one."""
+    used = used_steps(steps)
+    kept = []
+    places = []
+    for at, step in enumerate(steps):
+        places.append(len(kept))
+        if used[at]:
+            kept.append(moved_step(step, [places[earlier] for earlier in earlier_steps(step)]))
+    return tuple(kept)
+
+
+def strict_steps(formula, steps):
+    """A refutation without steps `weaken`, with at most as many steps and at most the same width."""
+    # Nothing is restricted by the empty cube, and what restricts a refutation leaves no weakening over.
+    return restricted_steps(formula, steps, ())
+
+
+class Narrowing:
+    """The steps that are left over of a refutation when the literals of a cube are true."""
+
+    def __init__(self, formula, cube):
+        self.cube = cube
+        self.steps = []
+        self.clauses = []
+        self.axioms = {}
+        for at, clause in enumerate(restricted(formula, cube)[1]):
+            self.axioms[clause] = at
+
+    def added(self, step, clause):
+        """Adds a step with its clause and returns its index."""
+        self.steps.append(step)
+        self.clauses.append(clause)
+        return len(self.steps) - 1
+
+    def place_of_axiom(self, clause):
+        """The index of a new step for an axiom whose clause the cube does not satisfy."""
+        left = without_false(clause, self.cube)
+        return self.added(("axiom", self.axioms[left]), left)
+
+    def place_of_resolve(self, first, second, v):
+        """The index of the step for a resolution on v, where two steps stand for the earlier ones."""
+        if v in self.cube:
+            return second
+        if -v in self.cube or v not in self.clauses[first]:
+            return first
+        if -v not in self.clauses[second]:
+            return second
+        clause = resolvent(self.clauses[first], self.clauses[second], v)
+        return self.added(("resolve", first, second, v), clause)
+
+
+def restricted_steps(formula, steps, cube):
+    """A refutation of the restricted formula with at most as many steps and at most the same width."""
+    left = Narrowing(formula, cube)
+    # For each step whose clause the cube does not satisfy, a step whose clause is contained in it.
+    places = []
+    for step, clause in zip(steps, clauses_of(formula, steps)):
+        if satisfies(cube, clause):
+            places.append(None)
+        elif step[0] == "axiom":
+            places.append(left.place_of_axiom(clause))
+        elif step[0] == "weaken":
+            places.append(places[step[1]])
+        else:
+            places.append(left.place_of_resolve(places[step[1]], places[step[2]], step[3]))
+    return pruned(tuple(left.steps[:places[-1] + 1]))
+
+
+def unfolded(steps):
+    """The treelike derivation in which every step is repeated as often as it is used."""
+    # For each step, the number of the steps that stand for it, with all that it uses.
+    sizes = []
+    for step in steps:
+        sizes.append(1 + sum([sizes[at] for at in earlier_steps(step)]))
+    # The steps in the wanted order, from the last one to the first one.
+    order = []
+    waiting = [len(steps) - 1]
+    while waiting:
+        at = waiting.pop()
+        order.append(at)
+        waiting.extend(earlier_steps(steps[at]))
+    order.reverse()
+    return tuple([placed_step(steps[at], place, sizes) for place, at in enumerate(order)])
+
+
+def placed_step(step, place, sizes):
+    """The step at a place behind the steps that stand for its earlier ones, which have some sizes."""
+    places = []
+    behind = place
+    for at in reversed(earlier_steps(step)):
+        places.append(behind - 1)
+        behind = behind - sizes[at]
+    places.reverse()
+    return moved_step(step, places)

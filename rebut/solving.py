@@ -1,0 +1,108 @@
+"""The search for a model or a refutation of a formula."""
+
+from rebut.clauses import is_model, satisfies
+from rebut.forms import has_form
+from rebut.resolution import is_refutation, pruned, resolvent
+
+
+class Search:
+    """A search through partial assignments that keeps the steps by which it refutes them."""
+
+    def __init__(self, formula):
+        self.formula = formula
+        self.steps = [("axiom", at) for at in range(len(formula[1]))]
+        self.clauses = list(formula[1])
+        # The indexes of the steps whose clauses are used to find what is forced.
+        self.known = {at: True for at in range(len(formula[1]))}
+        self.model = None
+
+    def resolved(self, first, second, v):
+        """Adds the step that resolves two steps on v and returns its index."""
+        self.steps.append(("resolve", first, second, v))
+        self.clauses.append(resolvent(self.clauses[first], self.clauses[second], v))
+        return len(self.steps) - 1
+
+    def spread(self, trail, reasons):
+        """Adds what is forced to a trail of literals, with reasons, up to a false clause.
+
+        Returns the index of the step with that clause, or None.
+        """
+        grown = True
+        while grown:
+            grown = False
+            for at in self.known:
+                left = [literal for literal in self.clauses[at] if -literal not in trail]
+                if not left:
+                    return at
+                if len(left) == 1 and left[0] not in trail:
+                    trail[left[0]] = True
+                    reasons.append((left[0], at))
+                    grown = True
+        return None
+
+    def cleared(self, at, reasons):
+        """The index of a step whose clause is that of a false one without what was forced."""
+        for literal, reason in reversed(reasons):
+            if -literal in self.clauses[at]:
+                if literal > 0:
+                    at = self.resolved(reason, at, literal)
+                else:
+                    at = self.resolved(at, reason, -literal)
+        return at
+
+    def open_variable(self, trail):
+        """An open variable of a shortest clause that is not satisfied, or None if there is none."""
+        best = None
+        for clause in self.formula[1]:
+            if not satisfies(trail, clause):
+                left = [literal for literal in clause if -literal not in trail]
+                if best is None or len(left) < len(best):
+                    best = left
+        return None if best is None else abs(best[0])
+
+    def explored(self, assumed):
+        """The index of a step whose clause some assumed literals falsify, or None where a model is found."""
+        trail = {literal: True for literal in assumed}
+        reasons = []
+        at = self.spread(trail, reasons)
+        if at is None:
+            v = self.open_variable(trail)
+            if v is None:
+                self.model = self.whole(trail)
+                return None
+            at = self.branched(list(trail), v)
+        if at is None:
+            return None
+        at = self.cleared(at, reasons)
+        self.known[at] = True
+        return at
+
+    def branched(self, literals, v):
+        """As `explored`, for literals and both values of an open variable v."""
+        low = self.explored([*literals, -v])
+        if low is None or v not in self.clauses[low]:
+            return low
+        high = self.explored([*literals, v])
+        if high is None or -v not in self.clauses[high]:
+            return high
+        return self.resolved(low, high, v)
+
+    def whole(self, trail):
+        """The assignment with the literals of a trail in which all other variables are false."""
+        return tuple(sorted([v if v in trail else -v for v in range(1, self.formula[0] + 1)]))
+
+
+def solve(formula):
+    """A tuple of the word model and an assignment, or of the word refutation and steps."""
+    search = Search(formula)
+    last = search.explored([])
+    if last is None:
+        return ("model", search.model)
+    return ("refutation", pruned(tuple(search.steps[:last + 1])))
+
+
+def is_solved(formula, value):
+    """Whether any value is a model or a refutation of a formula with its word in front."""
+    if has_form(value, "model", 2):
+        return is_model(formula, value[1])
+    return has_form(value, "refutation", 2) and is_refutation(formula, value[1])

@@ -1,0 +1,33 @@
+import importlib
+import inspect
+import unittest
+
+INTERFACE = {
+    "clauses": ["is_formula(value)", "made_formula(n, rows)", "restricted(formula, cube)", "renamed(formula, names)",
+                "joined(first, second)", "made_clause(literals)", "falsifies(cube, clause)", "satisfies(cube, clause)",
+                "is_model(formula, cube)", "falsified(formula, cube)", "width_of_formula(formula)",
+                "variables_of(formula)", "forced(formula, cube)"],
+    "texts": ["write_formula(formula)", "write_value(value)", "read_formula(text)", "read_value(text)"],
+    "families": ["chain_formula(n)", "pigeon_formula(p, h)", "parity_formula(vertices, edges, odd)",
+                 "order_formula(n)", "pebble_formula(rows)"],
+    "resolution": ["clauses_of(formula, steps)", "is_refutation(formula, value)", "step_width(formula, steps)",
+                   "step_depth(steps)", "is_treelike(steps)", "is_regular(steps)", "pruned(steps)",
+                   "strict_steps(formula, steps)", "restricted_steps(formula, steps, cube)", "unfolded(steps)"],
+    "solving": ["solve(formula)", "is_solved(formula, value)"],
+    "trees": ["is_tree(formula, value)", "tree_depth(tree)", "tree_leaves(tree)", "tree_rank(tree)",
+              "find_leaf(tree, cube)", "steps_of_tree(formula, tree)", "tree_of_steps(formula, steps)"],
+    "tables": ["is_table(formula, kind, value)", "number_in(kind, table, cube)"],
+    "widths": ["is_closed(formula, k, value)", "is_family(formula, k, value)", "family_of(formula, k, closed)",
+               "closed_of(formula, k, family)", "saturated(formula, k)"],
+}
+
+
+class Interface(unittest.TestCase):
+    def test_functions(self):
+        for module, rows in INTERFACE.items():
+            found = importlib.import_module("rebut." + module)
+            for row in rows:
+                function = getattr(found, row.split("(")[0])
+                self.assertTrue(inspect.isfunction(function), row)
+                self.assertEqual(function.__module__, "rebut." + module, row)
+                self.assertEqual(function.__name__ + str(inspect.signature(function)), row)
