@@ -22,23 +22,25 @@ class Search:
         self.clauses.append(resolvent(self.clauses[first], self.clauses[second], v))
         return len(self.steps) - 1
 
-    def spread(self, trail, reasons):
-        """Adds what is forced to a trail of literals, with reasons, up to a false clause.
+    def spread(self, assumed):
+        """The trail of what some literals force, with the reasons, up to a false clause.
 
-        Returns the index of the step with that clause, or None.
+        The third one of what is returned is the index of the step with that clause, or None.
         """
+        trail = {literal: True for literal in assumed}
+        reasons = []
         grown = True
         while grown:
             grown = False
             for at in self.known:
                 left = [literal for literal in self.clauses[at] if -literal not in trail]
                 if not left:
-                    return at
+                    return (trail, reasons, at)
                 if len(left) == 1 and left[0] not in trail:
                     trail[left[0]] = True
                     reasons.append((left[0], at))
                     grown = True
-        return None
+        return (trail, reasons, None)
 
     def cleared(self, at, reasons):
         """The index of a step whose clause is that of a false one without what was forced."""
@@ -62,9 +64,7 @@ class Search:
 
     def explored(self, assumed):
         """The index of a step whose clause some assumed literals falsify, or None where a model is found."""
-        trail = {literal: True for literal in assumed}
-        reasons = []
-        at = self.spread(trail, reasons)
+        trail, reasons, at = self.spread(assumed)
         if at is None:
             v = self.open_variable(trail)
             if v is None:

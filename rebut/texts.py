@@ -90,35 +90,45 @@ def read_atom(text):
     return number
 
 
-def read_piece(piece, rows):
-    """Adds what one piece between blanks says to the rows of the brackets that are open."""
-    inner = piece.lstrip("(")
-    atom = inner.rstrip(")")
-    opened = len(piece) - len(inner)
-    closed = len(inner) - len(atom)
-    if rows[0]:
-        raise BadText("something follows behind the value")
-    if len(rows) - 1 + opened > MOST_BRACKETS:
-        raise BadText("brackets are nested too deep")
-    if closed > len(rows) - 1 + opened:
-        raise BadText("a bracket is closed that is not open")
-    for _ in range(opened):
-        rows.append([])
-    if atom != "":
-        rows[-1].append(read_atom(atom))
-    elif opened == 0 or closed == 0:
-        raise BadText("a value is missing")
-    for _ in range(closed):
-        row = rows.pop()
-        rows[-1].append(tuple(row))
+class ValueReader:
+    """What has been read of the text of a value, piece by piece between the blanks."""
+
+    def __init__(self):
+        # The first row collects the value itself, each other one the items of a bracket that is open.
+        self.rows = [[]]
+
+    def take(self, piece):
+        """Reads one more piece: some brackets that open, perhaps an integer or a word, some brackets that close."""
+        inner = piece.lstrip("(")
+        atom = inner.rstrip(")")
+        opened = len(piece) - len(inner)
+        closed = len(inner) - len(atom)
+        if self.rows[0]:
+            raise BadText("something follows behind the value")
+        if len(self.rows) - 1 + opened > MOST_BRACKETS:
+            raise BadText("brackets are nested too deep")
+        if closed > len(self.rows) - 1 + opened:
+            raise BadText("a bracket is closed that is not open")
+        for _ in range(opened):
+            self.rows.append([])
+        if atom != "":
+            self.rows[-1].append(read_atom(atom))
+        elif opened == 0 or closed == 0:
+            raise BadText("a value is missing")
+        for _ in range(closed):
+            row = self.rows.pop()
+            self.rows[-1].append(tuple(row))
+
+    def whole(self):
+        """The value, once all pieces have been read; raises BadText if a bracket is still open."""
+        if len(self.rows) > 1:
+            raise BadText("a bracket is not closed")
+        return self.rows[0][0]
 
 
 def read_value(text):
     """The value of a text; raises BadText if there is none."""
-    # The first row collects the value itself, each other one the items of a bracket that is open.
-    rows = [[]]
+    reader = ValueReader()
     for piece in text.split(" "):
-        read_piece(piece, rows)
-    if len(rows) > 1:
-        raise BadText("a bracket is not closed")
-    return rows[0][0]
+        reader.take(piece)
+    return reader.whole()

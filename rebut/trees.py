@@ -66,22 +66,19 @@ def needed_tree(formula, tree):
     return (("ask", v, low, high), resolvent(low_clause, high_clause, v))
 
 
-def add_steps(tree, steps):
-    """Adds a step for each node of a tree to a list, those for `low` before those for `high`."""
+def steps_from(tree, start):
+    """The list of a step for each node of a tree, those for `low` first, where `start` steps come before them."""
     if tree[0] == "leaf":
-        steps.append(("axiom", tree[1]))
-        return
-    add_steps(tree[2], steps)
-    first = len(steps) - 1
-    add_steps(tree[3], steps)
-    steps.append(("resolve", first, len(steps) - 1, tree[1]))
+        return [("axiom", tree[1])]
+    low = steps_from(tree[2], start)
+    middle = start + len(low)
+    high = steps_from(tree[3], middle)
+    return low + high + [("resolve", middle - 1, middle + len(high) - 1, tree[1])]
 
 
 def steps_of_tree(formula, tree):
     """A treelike refutation without steps `weaken` that follows a right tree."""
-    steps = []
-    add_steps(needed_tree(formula, tree)[0], steps)
-    return tuple(steps)
+    return tuple(steps_from(needed_tree(formula, tree)[0], 0))
 
 
 def tree_of_steps(formula, steps):
