@@ -1,7 +1,7 @@
 """Literals, clauses, cubes and formulas."""
 
 from rebut.errors import BadFormula
-from rebut.forms import is_integer, is_tuple
+from rebut.forms import is_integer, is_tuple, is_tuple_of
 
 MOST_VARIABLES = 40
 
@@ -11,13 +11,15 @@ def ascends(row):
     return all([low < high for low, high in zip(row, row[1:])])
 
 
+def is_literal(n, value):
+    """Whether any value is a variable from 1 to n or its negation."""
+    return is_integer(value) and 1 <= abs(value) <= n
+
+
 def is_clause(n, value):
     """Whether any value is a clause, or a cube, of the variables from 1 to n."""
-    if not is_tuple(value):
+    if not is_tuple_of(value, lambda literal: is_literal(n, literal)):
         return False
-    for literal in value:
-        if not is_integer(literal) or literal == 0 or abs(literal) > n:
-            return False
     return ascends(value) and not any([-literal in value for literal in value])
 
 
@@ -26,12 +28,9 @@ def is_formula(value):
     if not is_tuple(value) or len(value) != 2:
         return False
     n, clauses = value
-    if not is_integer(n) or not 0 <= n <= MOST_VARIABLES or not is_tuple(clauses):
+    if not is_integer(n) or not 0 <= n <= MOST_VARIABLES:
         return False
-    for clause in clauses:
-        if not is_clause(n, clause):
-            return False
-    return ascends(clauses)
+    return is_tuple_of(clauses, lambda clause: is_clause(n, clause)) and ascends(clauses)
 
 
 def made_clause(literals):

@@ -26,6 +26,16 @@ def is_index(value, length):
     return is_integer(value) and 0 <= value < length
 
 
+def is_tuple_of(value, takes):
+    """Whether any value is a tuple of items that a function takes, which is called with any values, too."""
+    if not is_tuple(value):
+        return False
+    for part in value:
+        if not takes(part):
+            return False
+    return True
+
+
 def has_form(value, word, length):
     """Whether any value is a tuple of a length with a word in front."""
     return is_tuple(value) and len(value) == length and is_text(value[0]) and value[0] == word

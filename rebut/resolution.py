@@ -1,8 +1,8 @@
 """Derivations by resolution: what is right, their measures, and what can be made of them."""
 
 from rebut.clauses import is_clause, made_clause, restricted, satisfies, without_false
-from rebut.errors import WrongStep
 from rebut.forms import has_form, is_index, is_tuple, is_variable
+from rebut.rows import Row, all_known, earlier_steps, followed, moved_step, without_unused
 
 
 def resolvent(first, second, v):
@@ -47,21 +47,12 @@ def clause_of_step(formula, clauses, step):
 
 def right_clauses(formula, steps):
     """The clauses of the steps of a tuple before the first one that is not right."""
-    clauses = []
-    for step in steps:
-        clause = clause_of_step(formula, clauses, step)
-        if clause is None:
-            return clauses
-        clauses.append(clause)
-    return clauses
+    return followed(steps, lambda clauses, step: clause_of_step(formula, clauses, step))
 
 
 def clauses_of(formula, steps):
     """The clauses of the steps of a derivation; raises WrongStep if a step is not right."""
-    clauses = right_clauses(formula, steps)
-    if len(clauses) < len(steps):
-        raise WrongStep(len(clauses))
-    return clauses
+    return all_known(right_clauses(formula, steps), steps)
 
 
 def is_refutation(formula, value):
@@ -75,24 +66,6 @@ def is_refutation(formula, value):
 def step_width(formula, steps):
     """The greatest width of the clauses of a derivation."""
     return max([len(clause) for clause in clauses_of(formula, steps)])
-
-
-def earlier_steps(step):
-    """The list of the indexes of the earlier steps that a step uses."""
-    if step[0] == "resolve":
-        return [step[1], step[2]]
-    if step[0] == "weaken":
-        return [step[1]]
-    return []
-
-
-def moved_step(step, places):
-    """The step with a list of other indexes for the earlier steps that it uses."""
-    if step[0] == "resolve":
-        return ("resolve", places[0], places[1], step[3])
-    if step[0] == "weaken":
-        return ("weaken", places[0], step[2])
-    return step
 
 
 def step_depth(steps):
@@ -130,27 +103,9 @@ def is_regular(steps):
     return True
 
 
-def used_steps(steps):
-    """For each step, whether it is used, directly or indirectly, for the last one, or is the last one."""
-    used = [False] * len(steps)
-    used[-1] = True
-    for at in reversed(range(len(steps))):
-        if used[at]:
-            for earlier in earlier_steps(steps[at]):
-                used[earlier] = True
-    return used
-
-
 def pruned(steps):
     """The derivation without the steps that are not used for the last one."""
-    used = used_steps(steps)
-    kept = []
-    places = []
-    for at, step in enumerate(steps):
-        places.append(len(kept))
-        if used[at]:
-            kept.append(moved_step(step, [places[earlier] for earlier in earlier_steps(step)]))
-    return tuple(kept)
+    return without_unused(steps)
 
 
 def strict_steps(formula, steps):
@@ -159,27 +114,39 @@ def strict_steps(formula, steps):
     return restricted_steps(formula, steps, ())
 
 
-class Narrowing:
+class Derivation(Row):
+    """A derivation that grows, with the clauses of its steps."""
+
+    def __init__(self):
+        Row.__init__(self)
+        self.clauses = []
+
+    def stepped(self, step, clause):
+        """Adds a step with its clause and returns its index."""
+        self.clauses.append(clause)
+        return self.added(step)
+
+    def resolved(self, first, second, v):
+        """Adds the step that resolves two steps on v and returns its index."""
+        return self.stepped(("resolve", first, second, v), resolvent(self.clauses[first], self.clauses[second], v))
+
+    def steps_to(self, place):
+        """The derivation of one of the steps, without those that are not used for it."""
+        return pruned(self.parts[:place + 1])
+
+
+class Narrowing(Derivation):
     """The steps that are left over of a refutation when the literals of a cube are true."""
 
     def __init__(self, formula, cube):
+        Derivation.__init__(self)
         self.cube = cube
-        self.steps = []
-        self.clauses = []
-        self.axioms = {}
-        for at, clause in enumerate(restricted(formula, cube)[1]):
-            self.axioms[clause] = at
-
-    def added(self, step, clause):
-        """Adds a step with its clause and returns its index."""
-        self.steps.append(step)
-        self.clauses.append(clause)
-        return len(self.steps) - 1
+        self.axioms = {clause: at for at, clause in enumerate(restricted(formula, cube)[1])}
 
     def place_of_axiom(self, clause):
         """The index of a new step for an axiom whose clause the cube does not satisfy."""
         left = without_false(clause, self.cube)
-        return self.added(("axiom", self.axioms[left]), left)
+        return self.stepped(("axiom", self.axioms[left]), left)
 
     def place_of_resolve(self, first, second, v):
         """The index of the step for a resolution on v, where two steps stand for the earlier ones."""
@@ -189,8 +156,7 @@ class Narrowing:
             return first
         if -v not in self.clauses[second]:
             return second
-        clause = resolvent(self.clauses[first], self.clauses[second], v)
-        return self.added(("resolve", first, second, v), clause)
+        return self.resolved(first, second, v)
 
 
 def restricted_steps(formula, steps, cube):
@@ -207,7 +173,7 @@ def restricted_steps(formula, steps, cube):
             places.append(places[step[1]])
         else:
             places.append(left.place_of_resolve(places[step[1]], places[step[2]], step[3]))
-    return pruned(tuple(left.steps[:places[-1] + 1]))
+    return left.steps_to(places[-1])
 
 
 def unfolded(steps):

@@ -2,25 +2,20 @@
 
 from rebut.clauses import is_model, satisfies
 from rebut.forms import has_form
-from rebut.resolution import is_refutation, pruned, resolvent
+from rebut.resolution import Derivation, is_refutation
 
 
-class Search:
+class Search(Derivation):
     """A search through partial assignments that keeps the steps by which it refutes them."""
 
     def __init__(self, formula):
+        Derivation.__init__(self)
         self.formula = formula
-        self.steps = [("axiom", at) for at in range(len(formula[1]))]
-        self.clauses = list(formula[1])
+        for at, clause in enumerate(formula[1]):
+            self.stepped(("axiom", at), clause)
         # The indexes of the steps whose clauses are used to find what is forced.
         self.known = {at: True for at in range(len(formula[1]))}
         self.model = None
-
-    def resolved(self, first, second, v):
-        """Adds the step that resolves two steps on v and returns its index."""
-        self.steps.append(("resolve", first, second, v))
-        self.clauses.append(resolvent(self.clauses[first], self.clauses[second], v))
-        return len(self.steps) - 1
 
     def spread(self, assumed):
         """The trail of what some literals force, with the reasons, up to a false clause.
@@ -98,7 +93,7 @@ def solve(formula):
     last = search.explored([])
     if last is None:
         return ("model", search.model)
-    return ("refutation", pruned(tuple(search.steps[:last + 1])))
+    return ("refutation", search.steps_to(last))
 
 
 def is_solved(formula, value):

@@ -1,7 +1,7 @@
 """Tables that show how long trees of queries must take."""
 
 from rebut.clauses import ascends, extended, falsified, is_clause
-from rebut.forms import is_integer, is_tuple
+from rebut.forms import is_integer, is_tuple, is_tuple_of
 
 TABLE_KINDS = ("depth", "rank", "leaves")
 
@@ -28,12 +28,7 @@ def is_pair(n, value):
 
 def has_table_form(n, value):
     """Whether any value is an ascending tuple of pairs with different cubes."""
-    if not is_tuple(value):
-        return False
-    for pair in value:
-        if not is_pair(n, pair):
-            return False
-    return ascends([pair[0] for pair in value])
+    return is_tuple_of(value, lambda pair: is_pair(n, pair)) and ascends([pair[0] for pair in value])
 
 
 def is_enough(kind, number, low, high):
@@ -71,3 +66,69 @@ def is_table(formula, kind, value):
         if not is_right_at(formula, kind, numbers, cube):
             return False
     return True
+
+
+class Bounds:
+    """What is known of the least numbers, of one kind, of the trees behind cubes."""
+
+    def __init__(self, formula, kind):
+        self.formula = formula
+        self.kind = kind
+        self.base = least_number(kind)
+        # For each cube that has been looked at, a number that no tree behind it is below.
+        self.numbers = {}
+        # For each cube of which the least number is known, a tree with this number.
+        self.trees = {}
+
+    def least(self, cube, most):
+        """The least number of a tree behind a cube, or `most` if none is below it; `most` is at least the base."""
+        known = self.numbers.get(cube, self.base)
+        if known >= most or cube in self.trees:
+            return min(known, most)
+        index = falsified(self.formula, cube)
+        if index >= 0:
+            self.trees[cube] = ("leaf", index)
+            return self.base
+        self.numbers[cube] = self.least_of_questions(cube, most)
+        return self.numbers[cube]
+
+    def least_of_questions(self, cube, most):
+        """As `least`, for a cube that falsifies no clause; keeps the best tree that is below `most`."""
+        for v in range(1, self.formula[0] + 1):
+            # A tree that is no leaf cannot be below the base and one more.
+            if v not in cube and -v not in cube and most > self.base + 1:
+                low, high = extended(cube, -v), extended(cube, v)
+                number = self.number_of_both(low, high, most)
+                if number < most:
+                    most = number
+                    self.trees[cube] = ("ask", v, self.trees[low], self.trees[high])
+        return most
+
+    def number_of_both(self, low, high, most):
+        """The least number of a question with two cubes behind it, or `most` if it is not below it."""
+        if self.kind == "rank":
+            return self.rank_of_both(low, high, most)
+        first = self.least(low, most - 1)
+        if first == most - 1:
+            return most
+        if self.kind == "leaves":
+            return first + self.least(high, most - first)
+        return 1 + max(first, self.least(high, most - 1))
+
+    def rank_of_both(self, low, high, most):
+        """As `number_of_both`, for the rank."""
+        first = self.least(low, most - 1)
+        second = self.least(high, most - 1)
+        if first == second:
+            return first + 1
+        # The greater one decides, so it has to be known one further.
+        return max(self.least(low, most), self.least(high, most))
+
+
+def decide_tree(formula, kind, k):
+    """A right paper for a question of one of the three kinds."""
+    bounds = Bounds(formula, kind)
+    if bounds.least((), k + 1) <= k:
+        return ("yes", bounds.trees[()])
+    numbers = bounds.numbers
+    return ("no", tuple([(cube, numbers[cube]) for cube in sorted(numbers)]))

@@ -1,18 +1,13 @@
 """Width: closed sets of clauses, families of cubes, and saturation."""
 
 from rebut.clauses import ascends, extended, falsifies, is_clause, negated
-from rebut.forms import is_tuple
-from rebut.resolution import contains, resolvent
+from rebut.forms import is_tuple_of
+from rebut.resolution import Derivation, contains, resolvent
 
 
 def is_ascending_row(n, most, value):
     """Whether any value is an ascending tuple of clauses, or cubes, with widths of at most a number."""
-    if not is_tuple(value):
-        return False
-    for clause in value:
-        if not is_clause(n, clause) or len(clause) > most:
-            return False
-    return ascends(value)
+    return is_tuple_of(value, lambda clause: is_clause(n, clause) and len(clause) <= most) and ascends(value)
 
 
 def narrow_clauses(formula, k):
@@ -99,16 +94,54 @@ def closed_of(formula, k, family):
     return tuple([clause for clause in clauses if negated(clause) not in inside])
 
 
+class Saturation(Derivation):
+    """The clauses that can be derived from a formula within a width, each one with its step."""
+
+    def __init__(self, formula, k):
+        Derivation.__init__(self)
+        self.places = {}
+        # For each width, the places of the clauses that still have to meet the others.
+        self.waiting = [[] for _ in range(min(k, formula[0]) + 1)]
+        # For each literal, the places of the clauses with it that have met.
+        self.holders = {}
+        for at, clause in enumerate(formula[1]):
+            self.take(clause, ("axiom", at))
+
+    def take(self, clause, step):
+        """Takes a clause and its step, unless it is None, too wide, or there already."""
+        if clause is not None and len(clause) < len(self.waiting) and clause not in self.places:
+            self.waiting[len(clause)].append(len(self.clauses))
+            self.places[clause] = self.stepped(step, clause)
+
+    def meet(self):
+        """Resolves a narrowest clause that waits with all that have met, and returns whether there was one."""
+        widths = [width for width, row in enumerate(self.waiting) if row]
+        if not widths:
+            return False
+        at = self.waiting[widths[0]].pop(0)
+        clause = self.clauses[at]
+        for literal in clause:
+            self.holders.setdefault(literal, []).append(at)
+            for other in self.holders.get(-literal, []):
+                grown = resolvent(clause, self.clauses[other], abs(literal))
+                first, second = (at, other) if literal > 0 else (other, at)
+                self.take(grown, ("resolve", first, second, abs(literal)))
+        return True
+
+
 def saturated(formula, k):
     """The ascending tuple of all clauses that can be derived from a formula within the width k."""
-    found = {clause: True for clause in narrow_clauses(formula, k)}
-    waiting = list(found)
-    while waiting:
-        clause = waiting.pop()
-        # Each pair of clauses meets when the second one of both leaves the row of those that wait.
-        for other in list(found):
-            for grown in resolvents(clause, other) + resolvents(other, clause):
-                if len(grown) <= k and grown not in found:
-                    found[grown] = True
-                    waiting.append(grown)
-    return tuple(sorted(found))
+    saturation = Saturation(formula, k)
+    while saturation.meet():
+        pass
+    return tuple(sorted(saturation.clauses))
+
+
+def decide_width(formula, k):
+    """A right paper for a question of the kind `width`."""
+    saturation = Saturation(formula, k)
+    while () not in saturation.places and saturation.meet():
+        pass
+    if () not in saturation.places:
+        return ("no", tuple(sorted(saturation.clauses)))
+    return ("yes", saturation.steps_to(saturation.places[()]))

@@ -170,3 +170,167 @@ def random_refutations(seed, count, **more):
         if found == count:
             return
     raise AssertionError("too few refutations")
+
+
+def value_of(formula, cube, kind):
+    """The least depth, rank or number of leaves of a right tree below a cube, for a formula without models."""
+    if any(is_false(clause, cube) for clause in formula[1]):
+        return 1 if kind == "leaves" else 0
+    found = []
+    for v in range(1, formula[0] + 1):
+        if v not in cube and -v not in cube:
+            low, high = (value_of(formula, cube + (x,), kind) for x in (-v, v))
+            if kind == "depth":
+                found.append(1 + max(low, high))
+            elif kind == "rank":
+                found.append(max(low, high) + (low == high))
+            else:
+                found.append(low + high)
+    return min(found)
+
+
+def plain_saturated(formula, k):
+    found = {clause for clause in formula[1] if len(clause) <= k}
+    while True:
+        new = set()
+        for first, second in itertools.product(found, repeat=2):
+            for v in first:
+                rest = (set(first) | set(second)) - {v, -v}
+                if v > 0 and -v in second and not any(-x in rest for x in rest) and len(rest) <= k:
+                    new.add(tuple(sorted(rest)))
+        if new <= found:
+            return tuple(sorted(found))
+        found |= new
+
+
+def all_formulas(n):
+    """All formulas of n variables."""
+    clauses = cubes(n)
+    for bits in itertools.product((False, True), repeat=len(clauses)):
+        yield (n, tuple(clause for clause, bit in zip(clauses, bits) if bit))
+
+
+def monomials(n, most=None):
+    """All monomials of at most so many of the variables from 1 to n."""
+    sizes = range(n + 1 if most is None else min(n, most) + 1)
+    return sorted(row for size in sizes for row in itertools.combinations(range(1, n + 1), size))
+
+
+def as_set(p):
+    """A polynomial as a set of sets of variables."""
+    return frozenset(frozenset(monomial) for monomial in p)
+
+
+def as_tuple(p):
+    return tuple(sorted(tuple(sorted(monomial)) for monomial in p))
+
+
+def set_times(p, q):
+    """The product of two polynomials that are sets of sets."""
+    found = frozenset()
+    for first in p:
+        for second in q:
+            found ^= frozenset([first | second])
+    return found
+
+
+def set_of_clause(clause):
+    """The polynomial of a clause, as a set of sets, by its values at all assignments of its variables."""
+    positive = [literal for literal in clause if literal > 0]
+    negative = frozenset(-literal for literal in clause if literal < 0)
+    found = set()
+    for size in range(len(positive) + 1):
+        for row in itertools.combinations(positive, size):
+            found.add(negative | frozenset(row))
+    return frozenset(found)
+
+
+def set_degree(p):
+    return max((len(monomial) for monomial in p), default=-1)
+
+
+def is_spanned(wanted, rows):
+    """Whether a polynomial is a sum of some others, all of them sets of sets."""
+    basis = []
+    for row in list(rows) + [wanted]:
+        last = row
+        for lead, other in basis:
+            if lead in last:
+                last ^= other
+        if last:
+            lead = min(last, key=lambda monomial: (-len(monomial), sorted(monomial)))
+            basis.append((lead, last))
+    return not last
+
+
+def reaches_one(formula, k):
+    """Whether a calculation within k refutes a formula: by all sums for few variables, else by elimination."""
+    n, clauses = formula
+    start = [set_of_clause(clause) for clause in clauses if len(clause) <= k]
+    if n <= 3:
+        return frozenset([frozenset()]) in closed_space(n, k, start)
+    basis = {}
+    waiting = start
+    while waiting:
+        p = waiting.pop()
+        while p:
+            lead = max(p, key=lambda monomial: (len(monomial), sorted(monomial)))
+            if lead not in basis:
+                basis[lead] = p
+                if set_degree(p) < k:
+                    waiting.extend(set_times(p, [frozenset([v])]) for v in range(1, n + 1))
+                break
+            p = p ^ basis[lead]
+    return frozenset() in basis
+
+
+def closed_space(n, k, polynomials):
+    """All sums that can be reached within k, as sets of sets."""
+    space = {frozenset()}
+    waiting = list(polynomials)
+    while waiting:
+        p = waiting.pop()
+        if p in space:
+            continue
+        new = {p ^ q for q in space}
+        space |= new
+        for q in new:
+            if set_degree(q) < k:
+                waiting.extend(set_times(q, [frozenset([v])]) for v in range(1, n + 1))
+    return space
+
+
+def least_degree(formula):
+    """The least k such that a calculation within k refutes the formula; it has no model."""
+    return min(k for k in range(formula[0] + 1) if reaches_one(formula, k))
+
+
+def static_products(formula, k):
+    """All products of a monomial and the polynomial of a clause with a degree of at most k."""
+    found = []
+    for clause in formula[1]:
+        for monomial in monomials(formula[0]):
+            p = set_times([frozenset(monomial)], set_of_clause(clause))
+            if set_degree(p) <= k:
+                found.append(p)
+    return found
+
+
+def least_static(formula):
+    """The least degree of a static refutation of a formula without models."""
+    one = frozenset([frozenset()])
+    for k in range(formula[0] + 1):
+        if is_spanned(one, static_products(formula, k)):
+            return k
+    raise AssertionError("no static refutation")
+
+
+def least_number(formula, kind):
+    """The number of a formula without models for one of the six kinds."""
+    if kind == "width":
+        return min(k for k in range(formula[0] + 1) if () in plain_saturated(formula, k))
+    if kind == "degree":
+        return least_degree(formula)
+    if kind == "static":
+        return least_static(formula)
+    return value_of(formula, (), kind)

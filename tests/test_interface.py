@@ -19,6 +19,13 @@ INTERFACE = {
     "tables": ["is_table(formula, kind, value)", "number_in(kind, table, cube)"],
     "widths": ["is_closed(formula, k, value)", "is_family(formula, k, value)", "family_of(formula, k, closed)",
                "closed_of(formula, k, family)", "saturated(formula, k)"],
+    "papers": ["check(formula, question, paper)", "decide(formula, question)"],
+    "polynomials": ["is_polynomial(n, value)", "plus(p, q)", "times(p, q)", "clause_polynomial(clause)", "degree(p)",
+                    "value_at(p, cube)", "leading(p)", "reduced(p, space)"],
+    "calculus": ["polynomials_of(formula, lines)", "refutes(formula, value)", "is_space(formula, k, value)"],
+    "statics": ["is_static(formula, value)", "is_balance(formula, k, value)", "static_degree(formula, factors)"],
+    "planes": ["holds(inequality, cube)", "excludes(formula, value)", "inequalities_of(formula, cuts)",
+               "pigeon_cuts(p, h)"],
 }
 
 

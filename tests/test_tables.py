@@ -10,27 +10,10 @@ FREE = (2, ())
 KINDS = ("depth", "rank", "leaves")
 
 
-def value_of(formula, cube, kind):
-    """The least depth, rank or number of leaves of a right tree below a cube, for a formula without models."""
-    if any(oracles.is_false(clause, cube) for clause in formula[1]):
-        return 1 if kind == "leaves" else 0
-    found = []
-    for v in range(1, formula[0] + 1):
-        if v not in cube and -v not in cube:
-            low, high = (value_of(formula, cube + (x,), kind) for x in (-v, v))
-            if kind == "depth":
-                found.append(1 + max(low, high))
-            elif kind == "rank":
-                found.append(max(low, high) + (low == high))
-            else:
-                found.append(low + high)
-    return min(found)
-
-
 def best_table(formula, kind):
     pairs = []
     for cube in oracles.cubes(formula[0]):
-        number = value_of(formula, cube, kind)
+        number = oracles.value_of(formula, cube, kind)
         if number > (1 if kind == "leaves" else 0):
             pairs.append((cube, number))
     return tuple(pairs)
@@ -128,7 +111,7 @@ class IsTable(unittest.TestCase):
         for formula in oracles.random_refutable(51, 25, 3, 10):
             for kind in KINDS:
                 table = best_table(formula, kind)
-                least = value_of(formula, (), kind)
+                least = oracles.value_of(formula, (), kind)
                 self.assertIs(is_table(formula, kind, table), True)
                 self.assertEqual(number_in(kind, table, ()), least)
                 for _ in range(40):

@@ -41,20 +41,6 @@ def plain_family(formula, k, cubes):
     return True
 
 
-def plain_saturated(formula, k):
-    found = {clause for clause in formula[1] if len(clause) <= k}
-    while True:
-        new = set()
-        for first, second in itertools.product(found, repeat=2):
-            for v in first:
-                rest = (set(first) | set(second)) - {v, -v}
-                if v > 0 and -v in second and not any(-x in rest for x in rest) and len(rest) <= k:
-                    new.add(tuple(sorted(rest)))
-        if new <= found:
-            return tuple(sorted(found))
-        found |= new
-
-
 class IsClosed(unittest.TestCase):
     def test_right_ones(self):
         self.assertIs(is_closed(ALL_TWO, 1, ()), True)
@@ -235,9 +221,9 @@ class Saturated(unittest.TestCase):
     def test_random(self):
         for formula in oracles.random_formulas(65, 120, 4, 10, 4):
             for k in range(formula[0] + 2):
-                self.assertEqual(saturated(formula, k), plain_saturated(formula, k))
+                self.assertEqual(saturated(formula, k), oracles.plain_saturated(formula, k))
         for formula in oracles.random_formulas(67, 20, 6, 10, 4):
-            self.assertEqual(saturated(formula, 3), plain_saturated(formula, 3))
+            self.assertEqual(saturated(formula, 3), oracles.plain_saturated(formula, 3))
 
     def test_refutations_are_covered(self):
         for formula, steps in oracles.random_refutations(66, 60):
