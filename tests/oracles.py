@@ -334,3 +334,59 @@ def least_number(formula, kind):
     if kind == "static":
         return least_static(formula)
     return value_of(formula, (), kind)
+
+
+def random_tree(source, formula, cube=(), late=0.2):
+    """A right tree of a formula without models, which may go on asking where a clause is false already."""
+    wrong = [at for at, clause in enumerate(formula[1]) if is_false(clause, cube)]
+    free = [v for v in range(1, formula[0] + 1) if v not in cube and -v not in cube]
+    if wrong and (not free or source.random() > late):
+        return ("leaf", source.choice(wrong))
+    v = source.choice(free)
+    return ("ask", v, random_tree(source, formula, cube + (-v,), late), random_tree(source, formula, cube + (v,), late))
+
+
+def leaves(tree, cube=()):
+    """The pairs of the cube and the index of all leaves."""
+    if tree[0] == "leaf":
+        return [(cube, tree[1])]
+    return leaves(tree[2], cube + (-tree[1],)) + leaves(tree[3], cube + (tree[1],))
+
+
+def plain_polynomials(formula, lines):
+    """The polynomials of right lines, by the words of the document."""
+    found = []
+    for line in lines:
+        if line[0] == "axiom":
+            found.append(set_of_clause(formula[1][line[1]]))
+        elif line[0] == "add":
+            found.append(found[line[1]] ^ found[line[2]])
+        else:
+            found.append(set_times(found[line[1]], [frozenset([line[2]])]))
+    return [as_tuple(p) for p in found]
+
+
+def plain_inequalities(formula, cuts):
+    """The inequalities of a right row of cuts, by the words of the document."""
+    n, clauses = formula
+    found = []
+    for cut in cuts:
+        word = cut[0]
+        if word == "axiom":
+            clause = clauses[cut[1]]
+            factors = [(v in clause) - (-v in clause) for v in range(1, n + 1)]
+            found.append((factors, 1 - sum(literal < 0 for literal in clause)))
+        elif word in ("low", "high"):
+            sign = 1 if word == "low" else -1
+            found.append(([sign * (v == cut[1]) for v in range(1, n + 1)], min(0, sign)))
+        elif word == "add":
+            (first, low), (second, high) = found[cut[1]], found[cut[2]]
+            found.append(([a + b for a, b in zip(first, second)], low + high))
+        elif word == "times":
+            factors, bound = found[cut[1]]
+            found.append(([factor * cut[2] for factor in factors], bound * cut[2]))
+        else:
+            factors, bound = found[cut[1]]
+            assert all(factor % cut[2] == 0 for factor in factors) and cut[2] >= 1
+            found.append(([factor // cut[2] for factor in factors], -(-bound // cut[2])))
+    return [(tuple(factors), bound) for factors, bound in found]

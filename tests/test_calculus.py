@@ -21,18 +21,6 @@ WRONG = [(), ("axiom",), ("axiom", 0, 0), ("axiom", 2), ("axiom", -1), ("axiom",
          ("axiom", 10 ** 30), ("times", 0, 10 ** 30), ("add", 10 ** 30, 0)]
 
 
-def plain_polynomials(formula, lines):
-    found = []
-    for line in lines:
-        if line[0] == "axiom":
-            found.append(oracles.set_of_clause(formula[1][line[1]]))
-        elif line[0] == "add":
-            found.append(found[line[1]] ^ found[line[2]])
-        else:
-            found.append(oracles.set_times(found[line[1]], [frozenset([line[2]])]))
-    return [oracles.as_tuple(p) for p in found]
-
-
 def random_lines(source, formula, length):
     lines = [("axiom", source.randrange(len(formula[1])))]
     while len(lines) < length:
@@ -120,7 +108,7 @@ class PolynomialsOf(unittest.TestCase):
             if formula[1]:
                 lines = random_lines(source, formula, 12)
                 known = polynomials_of(formula, lines)
-                self.assertEqual(known, plain_polynomials(formula, lines))
+                self.assertEqual(known, oracles.plain_polynomials(formula, lines))
                 self.assertIs(type(known), list)
                 known.append(None)
                 self.assertEqual(len(polynomials_of(formula, lines)), 12)

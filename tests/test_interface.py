@@ -26,6 +26,16 @@ INTERFACE = {
     "statics": ["is_static(formula, value)", "is_balance(formula, k, value)", "static_degree(formula, factors)"],
     "planes": ["holds(inequality, cube)", "excludes(formula, value)", "inequalities_of(formula, cuts)",
                "pigeon_cuts(p, h)"],
+    "translations": ["cuts_of_steps(formula, steps)", "lines_of_steps(formula, steps)",
+                     "lines_of_factors(formula, factors)", "factors_of_tree(formula, tree)",
+                     "shallow_tables(formula, k, family)", "renamed_steps(formula, names, steps)",
+                     "renamed_tree(formula, names, tree)"],
+    "narrowing": ["narrow_steps(formula, tree)"],
+    "sides": ["side_formula(formula, division, side)", "common_variables(formula, division)",
+              "interpolant(formula, division, steps)", "circuit_value(circuit, cube)",
+              "half(formula, division, steps, cube)"],
+    "numbers": ["number_of(formula, kind)", "numbers(formula)"],
+    "books": ["write_book(formula, questions)", "read_book(text)", "book_faults(text)"],
 }
 
 

@@ -22,6 +22,8 @@ BARRED_NAMES = BARRED | set("""attrgetter breakpoint builtins compile copyright 
     getattr globals hasattr help id importlib license locals methodcaller os quit setattr super type vars sys""".split())
 BARRED_WORDS = set("""typing typing_extensions enum Enum IntEnum StrEnum Flag IntFlag Generic Protocol ABC ABCMeta
     namedtuple NamedTuple TypedDict TYPE_CHECKING abstractmethod dataclass overload contextmanager""".split())
+BARRED_ATTRIBUTES = set("""items keys values pop update append clear extend insert remove reverse setdefault sort args
+    encode decode hex fromhex format as_integer_ratio bit_count conjugate from_bytes is_integer to_bytes""".split())
 STATEMENTS = (ast.Assign, ast.AugAssign, ast.AnnAssign, ast.If, ast.While, ast.For, ast.Return, ast.Break, ast.Continue,
               ast.Pass, ast.Raise, ast.Assert, ast.Delete, ast.Nonlocal, ast.Match, ast.With, ast.Try, ast.Expr,
               ast.FunctionDef, ast.ClassDef, ast.ImportFrom)
@@ -147,6 +149,26 @@ class Language(unittest.TestCase):
             for node in nodes(tree, ast.ClassDef):
                 for row in node.body:
                     self.assertIsInstance(row, (ast.FunctionDef, ast.Expr, ast.Assign), f"L5 {name}")
+
+    def test_attributes(self):
+        """L18 and L26: what attributes are not called, and that none is a method of its class or one above."""
+        methods = {}
+        bases = {}
+        attributes = {}
+        for name, _, tree in trees():
+            for node in nodes(tree, ast.ClassDef):
+                self.assertNotIn(node.name, methods, f"{name} {node.name}")
+                methods[node.name] = {row.name for row in node.body if isinstance(row, ast.FunctionDef)}
+                bases[node.name] = [base.id for base in node.bases]
+                attributes[node.name] = {row.attr for row in nodes(node, ast.Attribute) if isinstance(row.ctx, ast.Store)}
+                self.assertFalse(attributes[node.name] & BARRED_ATTRIBUTES, f"L26 {name} {node.name}")
+        for name in methods:
+            above = [name]
+            while above:
+                other = above.pop()
+                self.assertFalse(attributes[name] & methods.get(other, set()), f"L18 {name}")
+                self.assertFalse(attributes.get(other, set()) & methods[name], f"L18 {name}")
+                above.extend(bases.get(other, []))
 
     def test_values(self):
         for name, _, tree in trees():

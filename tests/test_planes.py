@@ -21,32 +21,6 @@ WRONG = [(), ("axiom",), ("axiom", 0, 0), ("axiom", 2), ("axiom", -1), ("axiom",
          ("divide", 0, "1"), ("divide", 0, None), ("divide", 0, 1.0), ("divide", 0, 10 ** 30), (None, 0), (b"low", 1)]
 
 
-def follow(formula, cuts):
-    """The inequalities of a right row of cuts, by the words of the document."""
-    n, clauses = formula
-    found = []
-    for cut in cuts:
-        word = cut[0]
-        if word == "axiom":
-            clause = clauses[cut[1]]
-            factors = [(v in clause) - (-v in clause) for v in range(1, n + 1)]
-            found.append((factors, 1 - sum(literal < 0 for literal in clause)))
-        elif word in ("low", "high"):
-            sign = 1 if word == "low" else -1
-            found.append(([sign * (v == cut[1]) for v in range(1, n + 1)], min(0, sign)))
-        elif word == "add":
-            (first, low), (second, high) = found[cut[1]], found[cut[2]]
-            found.append(([a + b for a, b in zip(first, second)], low + high))
-        elif word == "times":
-            factors, bound = found[cut[1]]
-            found.append(([factor * cut[2] for factor in factors], bound * cut[2]))
-        else:
-            factors, bound = found[cut[1]]
-            assert all(factor % cut[2] == 0 for factor in factors) and cut[2] >= 1
-            found.append(([factor // cut[2] for factor in factors], -(-bound // cut[2])))
-    return [(tuple(factors), bound) for factors, bound in found]
-
-
 def random_cuts(source, formula, length):
     n = formula[0]
     cuts = [("axiom", source.randrange(len(formula[1])))]
@@ -56,7 +30,7 @@ def random_cuts(source, formula, length):
                              ("high", source.randint(1, n)), ("add", at, source.randrange(len(cuts))),
                              ("add", at, source.randrange(len(cuts))), ("times", at, source.randint(1, 4)),
                              ("divide", at, source.randint(1, 3)), ("divide", at, 2)))
-        if cut[0] != "divide" or all(f % cut[2] == 0 for f in follow(formula, cuts)[at][0]):
+        if cut[0] != "divide" or all(f % cut[2] == 0 for f in oracles.plain_inequalities(formula, cuts)[at][0]):
             cuts.append(cut)
     return tuple(cuts)
 
@@ -159,7 +133,7 @@ class InequalitiesOf(unittest.TestCase):
                 continue
             cuts = random_cuts(source, formula, 14)
             known = inequalities_of(formula, cuts)
-            self.assertEqual(known, follow(formula, cuts))
+            self.assertEqual(known, oracles.plain_inequalities(formula, cuts))
             self.assertIs(type(known), list)
             for model in oracles.models(formula):
                 self.assertTrue(all(holds(inequality, model) for inequality in known))
@@ -212,7 +186,7 @@ class PigeonCuts(unittest.TestCase):
         self.assertIs(type(cuts), tuple)
         self.assertLessEqual(len(cuts), 10 * p * p * h)
         self.assertIs(excludes(formula, cuts), True)
-        factors, bound = follow(formula, cuts)[-1]
+        factors, bound = oracles.plain_inequalities(formula, cuts)[-1]
         self.assertTrue(bound >= 1 and not any(factors))
 
     def test_all_small_ones(self):

@@ -17,28 +17,11 @@ CHAIN = (3, ((-3,), (-2, 3), (-1, 2), (1,)))
 COMB = ("ask", 1, ("leaf", 3), ("ask", 2, ("leaf", 2), ("ask", 3, ("leaf", 1), ("leaf", 0))))
 
 
-def random_tree(source, formula, cube=(), late=0.2):
-    """A right tree of a formula without models, which may go on asking where a clause is false already."""
-    wrong = [at for at, clause in enumerate(formula[1]) if oracles.is_false(clause, cube)]
-    free = [v for v in range(1, formula[0] + 1) if v not in cube and -v not in cube]
-    if wrong and (not free or source.random() > late):
-        return ("leaf", source.choice(wrong))
-    v = source.choice(free)
-    return ("ask", v, random_tree(source, formula, cube + (-v,), late), random_tree(source, formula, cube + (v,), late))
-
-
 def node_cubes(tree, cube=()):
     yield cube
     if tree[0] == "ask":
         yield from node_cubes(tree[2], cube + (-tree[1],))
         yield from node_cubes(tree[3], cube + (tree[1],))
-
-
-def leaves(tree, cube=()):
-    """The pairs of the cube and the index of all leaves."""
-    if tree[0] == "leaf":
-        return [(cube, tree[1])]
-    return leaves(tree[2], cube + (-tree[1],)) + leaves(tree[3], cube + (tree[1],))
 
 
 class IsTree(unittest.TestCase):
@@ -104,9 +87,9 @@ class IsTree(unittest.TestCase):
     def test_random(self):
         source = random.Random(5)
         for formula in oracles.random_refutable(41, 100):
-            tree = random_tree(source, formula)
+            tree = oracles.random_tree(source, formula)
             self.assertIs(is_tree(formula, tree), True)
-            for cube, at in leaves(tree)[:6]:
+            for cube, at in oracles.leaves(tree)[:6]:
                 for other in range(len(formula[1])):
                     right = oracles.is_false(formula[1][other], cube)
                     self.assertIs(is_tree(formula, self.with_leaf(tree, cube, other)), right)
@@ -140,8 +123,8 @@ class Measures(unittest.TestCase):
     def test_random(self):
         source = random.Random(6)
         for formula in oracles.random_refutable(42, 60):
-            tree = random_tree(source, formula, (), 0.5)
-            ends = leaves(tree)
+            tree = oracles.random_tree(source, formula, (), 0.5)
+            ends = oracles.leaves(tree)
             self.assertEqual(tree_depth(tree), max(len(cube) for cube, _ in ends))
             self.assertEqual(tree_leaves(tree), len(ends))
             self.assertEqual(tree_rank(tree), self.rank(tree))
@@ -185,7 +168,7 @@ class StepsOfTree(unittest.TestCase):
         source = random.Random(7)
         for formula in oracles.random_refutable(43, 80, 5, 16, 4):
             for late in (0, 0.3, 0.8):
-                self.check(formula, random_tree(source, formula, (), late))
+                self.check(formula, oracles.random_tree(source, formula, (), late))
 
     def test_nothing_is_changed(self):
         formula, tree = copy.deepcopy((ALL_TWO, FULL))
