@@ -33,10 +33,7 @@ class TreeSteps(Derivation):
         at = self.stepped(("axiom", index), self.formula[1][index])
         for literal, reason in answers:
             if reason is not None and -literal in self.clauses[at]:
-                if literal > 0:
-                    at = self.resolved(reason, at, literal)
-                else:
-                    at = self.resolved(at, reason, -literal)
+                at = self.taken_away(at, reason, literal)
         return at
 
 

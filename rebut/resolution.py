@@ -130,6 +130,15 @@ class Derivation(Row):
         """Adds the step that resolves two steps on v and returns its index."""
         return self.stepped(("resolve", first, second, v), resolvent(self.clauses[first], self.clauses[second], v))
 
+    def taken_away(self, at, reason, literal):
+        """Adds the step that takes the negation of a literal from the clause of a step; returns its index.
+
+        The clause of the step `reason` has the literal.
+        """
+        if literal > 0:
+            return self.resolved(reason, at, literal)
+        return self.resolved(at, reason, -literal)
+
     def steps_to(self, place):
         """The derivation of one of the steps, without those that are not used for it."""
         return pruned(self.parts[:place + 1])

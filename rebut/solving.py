@@ -41,10 +41,7 @@ class Search(Derivation):
         """The index of a step whose clause is that of a false one without what was forced."""
         for literal, reason in reversed(reasons):
             if -literal in self.clauses[at]:
-                if literal > 0:
-                    at = self.resolved(reason, at, literal)
-                else:
-                    at = self.resolved(at, reason, -literal)
+                at = self.taken_away(at, reason, literal)
         return at
 
     def open_variable(self, trail):
