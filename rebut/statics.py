@@ -54,7 +54,7 @@ def is_balance(formula, k, value):
     if not ascends(value) or () not in value:
         return False
     inside = {monomial: True for monomial in value}
-    return all([is_even_in(p, inside) for _, _, p in useful_products(formula, k)])
+    return all([is_even_in(row[2], inside) for row in useful_products(formula, k)])
 
 
 class Sums:
