@@ -9,7 +9,7 @@ class TreeSteps(Derivation):
 
     def __init__(self, formula):
         Derivation.__init__(self)
-        self.formula = formula
+        self.given = formula
 
     def followed(self, tree, answers):
         """Adds steps for a tree, the last one with a clause of negations of assumed answers; returns its index.
@@ -30,7 +30,7 @@ class TreeSteps(Derivation):
 
     def cleared(self, index, answers):
         """As `followed`, for a leaf with the index of a clause."""
-        at = self.stepped(("axiom", index), self.formula[1][index])
+        at = self.stepped(("axiom", index), self.given[1][index])
         for literal, reason in answers:
             if reason is not None and -literal in self.clauses[at]:
                 at = self.taken_away(at, reason, literal)

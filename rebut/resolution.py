@@ -15,14 +15,18 @@ def contains(clause, part):
     return all([literal in clause for literal in part])
 
 
+def right_resolvent(n, first, second, v):
+    """The clause of all literals of two clauses without v and -v, or None if any value v is not right for them."""
+    if not is_variable(n, v) or v not in first or -v not in second:
+        return None
+    return resolvent(first, second, v)
+
+
 def clause_of_resolve(formula, clauses, step):
     """The clause of a tuple of the form of a resolution behind steps with some clauses, or None if it is wrong."""
     if not is_index(step[1], len(clauses)) or not is_index(step[2], len(clauses)):
         return None
-    first, second, v = clauses[step[1]], clauses[step[2]], step[3]
-    if not is_variable(formula[0], v) or v not in first or -v not in second:
-        return None
-    return resolvent(first, second, v)
+    return right_resolvent(formula[0], clauses[step[1]], clauses[step[2]], step[3])
 
 
 def clause_of_weaken(formula, clauses, step):
@@ -130,6 +134,14 @@ class Derivation(Row):
         """Adds the step that resolves two steps on v and returns its index."""
         return self.stepped(("resolve", first, second, v), resolvent(self.clauses[first], self.clauses[second], v))
 
+    def resolved_if_needed(self, first, second, v):
+        """The index of a step that resolves two steps on v, or of the one whose clause has not the literal of v."""
+        if v not in self.clauses[first]:
+            return first
+        if -v not in self.clauses[second]:
+            return second
+        return self.resolved(first, second, v)
+
     def taken_away(self, at, reason, literal):
         """Adds the step that takes the negation of a literal from the clause of a step; returns its index.
 
@@ -161,11 +173,9 @@ class Narrowing(Derivation):
         """The index of the step for a resolution on v, where two steps stand for the earlier ones."""
         if v in self.cube:
             return second
-        if -v in self.cube or v not in self.clauses[first]:
+        if -v in self.cube:
             return first
-        if -v not in self.clauses[second]:
-            return second
-        return self.resolved(first, second, v)
+        return self.resolved_if_needed(first, second, v)
 
 
 def restricted_steps(formula, steps, cube):

@@ -1,6 +1,6 @@
 """The search for a model or a refutation of a formula."""
 
-from rebut.clauses import is_model, satisfies
+from rebut.clauses import is_model, negated, satisfies
 from rebut.forms import has_form
 from rebut.resolution import Derivation, is_refutation
 
@@ -10,12 +10,12 @@ class Search(Derivation):
 
     def __init__(self, formula):
         Derivation.__init__(self)
-        self.formula = formula
+        self.given = formula
         for at, clause in enumerate(formula[1]):
             self.stepped(("axiom", at), clause)
         # The indexes of the steps whose clauses are used to find what is forced.
         self.known = {at: True for at in range(len(formula[1]))}
-        self.model = None
+        self.found = None
 
     def spread(self, assumed):
         """The trail of what some literals force, with the reasons, up to a false clause.
@@ -44,10 +44,17 @@ class Search(Derivation):
                 at = self.taken_away(at, reason, literal)
         return at
 
+    def derived(self, clause):
+        """The index of a step, whose clause is known then, for a clause that follows at once, or for a part of it."""
+        _, reasons, at = self.spread(negated(clause))
+        at = self.cleared(at, reasons)
+        self.known[at] = True
+        return at
+
     def open_variable(self, trail):
         """An open variable of a shortest clause that is not satisfied, or None if there is none."""
         best = None
-        for clause in self.formula[1]:
+        for clause in self.given[1]:
             if not satisfies(trail, clause):
                 left = [literal for literal in clause if -literal not in trail]
                 if best is None or len(left) < len(best):
@@ -60,7 +67,7 @@ class Search(Derivation):
         if at is None:
             v = self.open_variable(trail)
             if v is None:
-                self.model = self.whole(trail)
+                self.found = self.whole(trail)
                 return None
             at = self.branched(list(trail), v)
         if at is None:
@@ -81,7 +88,7 @@ class Search(Derivation):
 
     def whole(self, trail):
         """The assignment with the literals of a trail in which all other variables are false."""
-        return tuple(sorted([v if v in trail else -v for v in range(1, self.formula[0] + 1)]))
+        return tuple(sorted([v if v in trail else -v for v in range(1, self.given[0] + 1)]))
 
 
 def solve(formula):
@@ -89,7 +96,7 @@ def solve(formula):
     search = Search(formula)
     last = search.explored([])
     if last is None:
-        return ("model", search.model)
+        return ("model", search.found)
     return ("refutation", search.steps_to(last))
 
 

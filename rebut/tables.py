@@ -72,7 +72,7 @@ class Bounds:
     """What is known of the least numbers, of one kind, of the trees behind cubes."""
 
     def __init__(self, formula, kind):
-        self.formula = formula
+        self.given = formula
         self.kind = kind
         self.base = least_number(kind)
         # For each cube that has been looked at, a number that no tree behind it is below.
@@ -85,7 +85,7 @@ class Bounds:
         known = self.numbers.get(cube, self.base)
         if known >= most or cube in self.trees:
             return min(known, most)
-        index = falsified(self.formula, cube)
+        index = falsified(self.given, cube)
         if index >= 0:
             self.trees[cube] = ("leaf", index)
             return self.base
@@ -94,7 +94,7 @@ class Bounds:
 
     def least_of_questions(self, cube, most):
         """As `least`, for a cube that falsifies no clause; keeps the best tree that is below `most`."""
-        for v in range(1, self.formula[0] + 1):
+        for v in range(1, self.given[0] + 1):
             # A tree that is no leaf cannot be below the base and one more.
             if v not in cube and -v not in cube and most > self.base + 1:
                 low, high = extended(cube, -v), extended(cube, v)

@@ -390,3 +390,52 @@ def plain_inequalities(formula, cuts):
             assert all(factor % cut[2] == 0 for factor in factors) and cut[2] >= 1
             found.append(([factor // cut[2] for factor in factors], -(-bound // cut[2])))
     return [(tuple(factors), bound) for factors, bound in found]
+
+
+def plain_forced(clauses, literals):
+    """What some literals force by the clauses, as a set, or None; by the words of the document."""
+    found = set(literals)
+    while True:
+        grown = set(found)
+        for clause in clauses:
+            left = [literal for literal in clause if -literal not in found]
+            if not left:
+                return None
+            if len(left) == 1:
+                grown.add(left[0])
+        if any(-literal in grown for literal in grown):
+            return None
+        if grown == found:
+            return found
+        found = grown
+
+
+def plain_follows(clauses, clause):
+    return plain_forced(clauses, [-literal for literal in clause]) is None
+
+
+def plain_is_log(formula, log):
+    """Whether a tuple of clauses is a log."""
+    known = list(formula[1])
+    for clause in log:
+        if not plain_follows(known, clause):
+            return False
+        known.append(clause)
+    return bool(log) and log[-1] == ()
+
+
+def is_plainly_regular(steps):
+    """Whether no variable is resolved twice on a way, by going all ways."""
+    def goes(at, seen):
+        step = steps[at]
+        if step[0] == "axiom":
+            return True
+        if step[0] == "weaken":
+            return goes(step[1], seen)
+        return step[3] not in seen and all(goes(b, seen | {step[3]}) for b in step[1:3])
+    return goes(len(steps) - 1, frozenset())
+
+
+def models_within(formula, indexes):
+    """The models of the clauses with some indexes."""
+    return models((formula[0], tuple(formula[1][at] for at in indexes)))

@@ -36,6 +36,19 @@ INTERFACE = {
               "half(formula, division, steps, cube)"],
     "numbers": ["number_of(formula, kind)", "numbers(formula)"],
     "books": ["write_book(formula, questions)", "read_book(text)", "book_faults(text)"],
+    "logs": ["follows_at_once(formula, clause)", "is_log(formula, value)", "log_of_steps(formula, steps)",
+             "shortened_log(formula, log)", "steps_of_log(formula, log)"],
+    "learning": ["learn(formula)"],
+    "graphs": ["is_query_graph(formula, value)", "tree_of_graph(graph)", "graph_of_tree(tree)", "graph_of_steps(steps)",
+               "graph_leaf(graph, cube)", "steps_of_graph(formula, graph)"],
+    "memory": ["is_row(formula, value)", "row_space(formula, row)", "memories(formula, row)",
+               "row_of_tree(formula, tree)", "row_of_steps(formula, steps)", "steps_of_row(formula, row)"],
+}
+CLASSES = {
+    ("desk", "Desk"): ["__init__(self, n)", "add(self, literals)", "remove(self, index)", "formula(self)", "model(self)",
+                       "core(self)", "steps(self)"],
+    ("learning", "Learner"): ["__init__(self, formula)", "assume(self, literal)", "assumptions(self)", "learned(self)",
+                              "knows(self)", "finished(self)"],
 }
 
 
@@ -48,3 +61,12 @@ class Interface(unittest.TestCase):
                 self.assertTrue(inspect.isfunction(function), row)
                 self.assertEqual(function.__module__, "rebut." + module, row)
                 self.assertEqual(function.__name__ + str(inspect.signature(function)), row)
+
+    def test_classes(self):
+        for (module, name), rows in CLASSES.items():
+            found = getattr(importlib.import_module("rebut." + module), name)
+            self.assertTrue(inspect.isclass(found), name)
+            self.assertEqual(found.__module__, "rebut." + module, name)
+            for row in rows:
+                method = vars(found)[row.split("(")[0]]
+                self.assertEqual(method.__name__ + str(inspect.signature(method)), row)

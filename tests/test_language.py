@@ -169,6 +169,17 @@ class Language(unittest.TestCase):
                 self.assertFalse(attributes[name] & methods.get(other, set()), f"L18 {name}")
                 self.assertFalse(attributes.get(other, set()) & methods[name], f"L18 {name}")
                 above.extend(bases.get(other, []))
+        # L18 lets other classes share such names under some conditions; here none do.
+        self.assertFalse(set().union(*methods.values()) & set().union(*attributes.values()), "L18")
+        # L24: sets that are stored are not told from objects with these methods.
+        if {"add", "discard"} & set().union(*methods.values()):
+            for name, _, tree in trees():
+                stored = {node.targets[0].id for node in nodes(tree, ast.Assign) if isinstance(node.targets[0], ast.Name)
+                          and (isinstance(node.value, (ast.Set, ast.SetComp)) or getattr(getattr(node.value, "func", 0), "id", "")
+                               == "set")}
+                for node in nodes(tree, ast.Attribute):
+                    if node.attr in ("add", "discard") and isinstance(node.value, ast.Name):
+                        self.assertNotIn(node.value.id, stored, f"L24 {name} {node.lineno}")
 
     def test_values(self):
         for name, _, tree in trees():
