@@ -43,15 +43,41 @@ def parity_clauses(variables, parity):
     return [made_clause(clause) for clause, count in zip(clauses, counts) if count != parity]
 
 
+def parity_rows(edges, odd):
+    """The list of the variables of the edges at each vertex of a graph, with the parity of the true ones."""
+    # Any other vertex has no edges and is to be even, so it has no clause.
+    rows = []
+    for vertex in sorted({end for edge in edges for end in edge} | set(odd)):
+        variables = [k + 1 for k, edge in enumerate(edges) if vertex in edge]
+        rows.append((variables, 1 if vertex in odd else 0))
+    return rows
+
+
 def parity_formula(vertices, edges, odd):
     """At each vertex of a graph the number of true edges is odd or even, as a list tells."""
     check_graph(vertices, edges, odd)
     clauses = []
-    # Any other vertex has no edges and is to be even, so it has no clause.
-    for vertex in sorted({end for edge in edges for end in edge} | set(odd)):
-        variables = [k + 1 for k, edge in enumerate(edges) if vertex in edge]
-        clauses.extend(parity_clauses(variables, 1 if vertex in odd else 0))
+    for variables, parity in parity_rows(edges, odd):
+        clauses.extend(parity_clauses(variables, parity))
     return gathered(len(edges), clauses)
+
+
+def odd_parity_formula(vertices, edges, odd):
+    """The formula of a graph that has no model since the number of vertices that are to be odd is odd."""
+    formula = parity_formula(vertices, edges, odd)
+    if len(set(odd)) % 2 == 0:
+        raise BadFormula("the number of the vertices that are to be odd is even")
+    return formula
+
+
+def order_literals(numbers):
+    """The dictionary from pairs of ascending numbers to the literals which say that the first one comes before."""
+    before = {}
+    for i, j in [(i, j) for i in numbers for j in numbers if i < j]:
+        v = len(before) // 2 + 1
+        before[(i, j)] = v
+        before[(j, i)] = -v
+    return before
 
 
 def order_formula(n):
@@ -59,15 +85,11 @@ def order_formula(n):
     if n < 1 or n * (n - 1) // 2 > MOST_VARIABLES:
         raise BadFormula("the number of what is ordered is not allowed")
     numbers = list(range(1, n + 1))
-    pairs = [(i, j) for i in numbers for j in numbers if i < j]
-    before = {}
-    for at, (i, j) in enumerate(pairs):
-        before[(i, j)] = at + 1
-        before[(j, i)] = -(at + 1)
+    before = order_literals(numbers)
     triples = [(i, j, k) for i in numbers for j in numbers for k in numbers if i != j and j != k and k != i]
     cycles = [[-before[(i, j)], -before[(j, k)], -before[(k, i)]] for i, j, k in triples]
     firsts = [[before[(j, i)] for j in numbers if j != i] for i in numbers]
-    return made_formula(len(pairs), cycles + firsts)
+    return made_formula(len(before) // 2, cycles + firsts)
 
 
 def pebble_formula(rows):

@@ -2,6 +2,7 @@
 
 from rebut.clauses import forced
 from rebut.logs import follows_at_once, with_more
+from rebut.solving import completed, open_variable
 
 
 def least_clause(formula, clause):
@@ -66,8 +67,8 @@ def learn(formula):
     learner = Learner(formula)
     while not learner.finished():
         cube = learner.knows()
-        unknown = [v for v in range(1, formula[0] + 1) if v not in cube and -v not in cube]
-        if not unknown:
-            return ("model", cube)
-        learner.assume(unknown[0])
+        v = open_variable(formula, cube)
+        if v is None:
+            return ("model", completed(formula[0], cube))
+        learner.assume(v)
     return ("log", (*learner.learned(), ()))

@@ -65,18 +65,19 @@ def circuit_value(circuit, cube):
 class Halves:
     """What is left over of a refutation on each side when the literals of a cube are true."""
 
-    def __init__(self, formula, division, cube):
+    def __init__(self, formula, division, cube, first_cube):
         # By the values of the gates: False keeps clauses of the first side, True those of the second one.
         self.sides = {False: Narrowing(side_formula(formula, division, 1), cube),
                       True: Narrowing(side_formula(formula, division, 2), cube)}
-        self.cube = cube
+        # What makes a clause true such that nothing needs to be kept for its step, by the same values.
+        self.idle = {False: first_cube, True: cube}
         # For each step, the value of its gate, and the place of the step that is kept for it on that side.
         self.gates = []
         self.places = []
 
     def take(self, step, clause, value):
-        """Keeps a step for the next one, whose clause the cube may satisfy; then none is needed."""
-        self.places.append(None if satisfies(self.cube, clause) else self.kept(step, clause, value))
+        """Keeps a step for the next one, or None if none is needed."""
+        self.places.append(None if satisfies(self.idle[value], clause) else self.kept(step, clause, value))
         self.gates.append(value)
 
     def kept(self, step, clause, value):
@@ -90,11 +91,14 @@ class Halves:
             return self.sides[value].place_of_resolve(self.places[a], self.places[b], v)
         return self.places[a] if self.gates[a] == value else self.places[b]
 
+    def half_of(self, formula, steps, values):
+        """The side without a model and a refutation of it, from one of both sides and the values of its gates."""
+        for step, clause, value in zip(steps, clauses_of(formula, steps), values):
+            self.take(step, clause, value)
+        return (2 if values[-1] else 1, self.sides[values[-1]].steps_to(self.places[-1]))
+
 
 def half(formula, division, steps, cube):
     """The side without a model, for a cube of the common variables, and a refutation of it."""
-    halves = Halves(formula, division, cube)
     values = gate_values(interpolant(formula, division, steps), cube)
-    for step, clause, value in zip(steps, clauses_of(formula, steps), values):
-        halves.take(step, clause, value)
-    return (2 if values[-1] else 1, halves.sides[values[-1]].steps_to(halves.places[-1]))
+    return Halves(formula, division, cube, cube).half_of(formula, steps, values)

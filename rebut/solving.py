@@ -5,6 +5,22 @@ from rebut.forms import has_form
 from rebut.resolution import Derivation, is_refutation
 
 
+def open_variable(formula, known):
+    """An open variable of a shortest clause that no known literal satisfies, or None if there is no such clause."""
+    best = None
+    for clause in formula[1]:
+        if not satisfies(known, clause):
+            left = [literal for literal in clause if -literal not in known]
+            if best is None or len(left) < len(best):
+                best = left
+    return None if best is None else abs(best[0])
+
+
+def completed(n, known):
+    """The assignment with some known literals in which all other variables are false."""
+    return tuple(sorted([v if v in known else -v for v in range(1, n + 1)]))
+
+
 class Search(Derivation):
     """A search through partial assignments that keeps the steps by which it refutes them."""
 
@@ -51,23 +67,13 @@ class Search(Derivation):
         self.known[at] = True
         return at
 
-    def open_variable(self, trail):
-        """An open variable of a shortest clause that is not satisfied, or None if there is none."""
-        best = None
-        for clause in self.given[1]:
-            if not satisfies(trail, clause):
-                left = [literal for literal in clause if -literal not in trail]
-                if best is None or len(left) < len(best):
-                    best = left
-        return None if best is None else abs(best[0])
-
     def explored(self, assumed):
         """The index of a step whose clause some assumed literals falsify, or None where a model is found."""
         trail, reasons, at = self.spread(assumed)
         if at is None:
-            v = self.open_variable(trail)
+            v = open_variable(self.given, trail)
             if v is None:
-                self.found = self.whole(trail)
+                self.found = completed(self.given[0], trail)
                 return None
             at = self.branched(list(trail), v)
         if at is None:
@@ -85,10 +91,6 @@ class Search(Derivation):
         if high is None or -v not in self.clauses[high]:
             return high
         return self.resolved(low, high, v)
-
-    def whole(self, trail):
-        """The assignment with the literals of a trail in which all other variables are false."""
-        return tuple(sorted([v if v in trail else -v for v in range(1, self.given[0] + 1)]))
 
 
 def solve(formula):

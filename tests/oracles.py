@@ -439,3 +439,69 @@ def is_plainly_regular(steps):
 def models_within(formula, indexes):
     """The models of the clauses with some indexes."""
     return models((formula[0], tuple(formula[1][at] for at in indexes)))
+
+
+def random_graph(source):
+    vertices = source.randint(1, 7)
+    pairs = list(itertools.combinations(range(vertices), 2))
+    edges = [source.choice(pairs) for _ in range(source.randint(0, 7))] if pairs else []
+    odd = [source.randrange(vertices) for _ in range(source.randint(1, 6))]
+    return vertices, edges, odd
+
+
+def greatest_degree(vertices, edges):
+    return max(sum(vertex in edge for edge in edges) for vertex in range(vertices))
+
+
+def graphs():
+    """Graphs with an odd number of different vertices that are to be odd."""
+    yield 1, [], [0]
+    yield 1, [], [0, 0, 0, 0]
+    yield 2, [(0, 1)], [0]
+    yield 2, [(0, 1)], [1, 1]
+    yield 2, [(0, 1)] * 5, [1]
+    yield 3, [(0, 1)] * 2 + [(1, 2)] * 3 + [(0, 2)], [2]
+    yield 3, [(0, 2), (0, 1), (1, 2)], [0, 1, 2, 0]
+    # Vertices without edges, which are to be odd or not, ahead of and behind the others.
+    yield 5, [(1, 3)], [1]
+    yield 5, [(1, 3)], [0]
+    yield 5, [(1, 3)], [4, 1, 3]
+    yield 6, [], [5]
+    yield 7, [], [1, 3, 5]
+    # Several components, in one of which something is wrong.
+    yield 6, [(0, 1), (1, 2), (0, 2), (3, 4), (4, 5), (3, 5)], [4]
+    yield 6, [(0, 3), (1, 4), (2, 5)], [0, 3, 5]
+    yield 8, [(v, v + 1) for v in range(7)], [7]
+    yield 9, [(v, v + 1) for v in range(8)] + [(0, 8)], [3]
+    yield 6, [(0, v) for v in range(1, 6)], [0]
+    yield 5, list(itertools.combinations(range(5), 2)), [2]
+    yield 200, [(7, 100), (100, 150), (7, 150)], [100]
+    yield 10 ** 12, [(0, 10 ** 11)], [10 ** 11]
+    yield 16, [(v, v + 1) for v in range(15)] + [(v, v + 4) for v in range(12)], [9]
+    source = random.Random(56)
+    for _ in range(150):
+        vertices, edges, odd = random_graph(source)
+        if len(set(odd)) % 2 == 1:
+            yield vertices, edges, odd
+
+
+def wrong_graphs():
+    yield 0, [], []
+    yield -1, [], [0]
+    yield 0, [(0, 1)], [0]
+    yield 3, [(0, 3)], [0]
+    yield 3, [(-1, 1)], [0]
+    yield 3, [(1, 0)], [0]
+    yield 3, [(1, 1)], [0]
+    yield 3, [(0, 1), (2, 1)], [0]
+    yield 3, [(0, 1)], [3]
+    yield 3, [(0, 1)], [-1]
+    yield 3, [(0, 1)], [0, 1, 3]
+    yield 2, [(0, 1)] * 41, [0]
+    # An even number of different vertices.
+    yield 3, [(0, 1)], []
+    yield 1, [], []
+    yield 3, [(0, 1)], [0, 1]
+    yield 3, [(0, 1), (1, 2)], [0, 0, 2]
+    yield 3, [(0, 1), (1, 2)], [0, 2, 2]
+    yield 4, [], [0, 1, 2, 3]

@@ -185,6 +185,17 @@ class Answers(unittest.TestCase):
         self.assertEqual(desk_of((2, ((), (-1,), (1,)))).core(), [0])
         for formula in oracles.random_refutable(311, 80):
             self.check_core(formula, desk_of(formula).core())
+        # With so many clauses, what one refutation uses is often more than what is needed.
+        source = random.Random(32)
+        clauses = [clause for clause in oracles.cubes(4) if len(clause) in (2, 3)]
+        count = 0
+        for _ in range(120):
+            formula = (4, tuple(sorted(source.sample(clauses, 16))))
+            if not oracles.models(formula):
+                desk = desk_of(formula)
+                self.check_core(formula, desk.core())
+                count += len(desk.core()) < len({step for step in desk.steps() if step[0] == "axiom"})
+        self.assertGreater(count, 5)
 
     def test_cores_change(self):
         desk = desk_of((3, ((-3,), (-2, 3), (-1, 2), (1,))))

@@ -2,6 +2,8 @@ import importlib
 import inspect
 import unittest
 
+from rebut import errors, papers
+
 INTERFACE = {
     "clauses": ["is_formula(value)", "made_formula(n, rows)", "restricted(formula, cube)", "renamed(formula, names)",
                 "joined(first, second)", "made_clause(literals)", "falsifies(cube, clause)", "satisfies(cube, clause)",
@@ -43,6 +45,16 @@ INTERFACE = {
                "graph_leaf(graph, cube)", "steps_of_graph(formula, graph)"],
     "memory": ["is_row(formula, value)", "row_space(formula, row)", "memories(formula, row)",
                "row_of_tree(formula, tree)", "row_of_steps(formula, steps)", "steps_of_row(formula, row)"],
+    "sums": ["is_sum_tree(formula, value)", "implied(equations, equation)", "solvable(equations)", "sum_depth(tree)",
+             "find_sum_leaf(tree, cube)", "sums_of_tree(tree)", "parity_sums(vertices, edges, odd)"],
+    "known": ["chain_tree(n)", "chain_steps(n)", "pebble_steps(rows)", "order_steps(n)",
+              "parity_lines(vertices, edges, odd)"],
+    "rising": ["is_rising(formula, division)", "rising_interpolant(formula, division, steps)",
+               "rising_value(circuit, cube)", "rising_half(formula, division, steps, cube)",
+               "falling_division(formula, division)"],
+    "reports": ["write_report(formula, steps)", "read_report(text, formula)", "statistics(formula, steps)",
+                "report_faults(text, formula)"],
+    "console": ["run_console(text)"],
 }
 CLASSES = {
     ("desk", "Desk"): ["__init__(self, n)", "add(self, literals)", "remove(self, index)", "formula(self)", "model(self)",
@@ -70,3 +82,13 @@ class Interface(unittest.TestCase):
             for row in rows:
                 method = vars(found)[row.split("(")[0]]
                 self.assertEqual(method.__name__ + str(inspect.signature(method)), row)
+
+    def test_errors(self):
+        self.assertTrue(issubclass(errors.RebutError, ValueError))
+        for name in ("BadFormula", "BadText", "WrongStep", "BadQuestion", "HasModel", "NotRising", "BadLine"):
+            found = getattr(errors, name)
+            self.assertEqual((found.__bases__, found.__module__), ((errors.RebutError,), "rebut.errors"))
+        self.assertEqual((errors.WrongStep(3).index, errors.BadLine(4).line), (3, 4))
+
+    def test_kinds(self):
+        self.assertEqual(papers.KINDS, ("depth", "rank", "leaves", "width", "degree", "static"))

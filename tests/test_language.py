@@ -42,7 +42,7 @@ def bound_names(tree):
     found = [node.id for node in nodes(tree, ast.Name) if isinstance(node.ctx, ast.Store)]
     found += [node.arg for node in nodes(tree, ast.arg)]
     found += [node.name for node in nodes(tree, ast.ClassDef)]
-    found += [node.name for node in nodes(tree, ast.ExceptHandler) if node.name]
+    found += [node.name for node in nodes(tree, ast.ExceptHandler, ast.MatchAs, ast.MatchStar) if node.name]
     methods = {id(row) for node in nodes(tree, ast.ClassDef) for row in node.body}
     found += [node.name for node in nodes(tree, ast.FunctionDef) if id(node) not in methods]
     return found + [name.asname or name.name for node in nodes(tree, ast.ImportFrom) for name in node.names]
@@ -121,7 +121,7 @@ class Language(unittest.TestCase):
             taken |= {row.name for row in tree.body if isinstance(row, ast.ClassDef)}
             bound = bound_names(tree)
             for word in bound:
-                self.assertFalse(hasattr(builtins, word), f"L15 {name} {word}")
+                self.assertFalse(word != "_" and hasattr(builtins, word), f"L15 {name} {word}")
                 self.assertNotIn(word, BARRED_NAMES, f"L17 {name}")
                 self.assertTrue(re.fullmatch(r"_?[A-Za-z][A-Za-z0-9_]*|_", word), f"L12 {name} {word}")
             for node in nodes(tree, ast.FunctionDef, ast.Lambda):
